@@ -1,5 +1,6 @@
 """Liquors: tuples (SPIRIT, WATER) of fractions from 0 on, measures of each."""
 
+from twicerun.errors import NoLiquor
 from twicerun.fractions import is_fraction, is_pair, over, plus
 
 
@@ -9,6 +10,11 @@ def is_part(thing):
 
 def is_liquor(thing):
     return is_pair(thing) and is_part(thing[0]) and is_part(thing[1])
+
+
+def check_liquor(thing):
+    if not is_liquor(thing):
+        raise NoLiquor("no LIQUOR")
 
 
 def together(one, other):

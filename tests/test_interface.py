@@ -1,0 +1,25 @@
+"""The names and arguments that the interface lists, module by module."""
+
+import importlib
+import inspect
+import unittest
+
+FUNCTIONS = {
+    "fractions": ("is_fraction(thing)", "fraction(top, bottom)", "plus(a, b)", "minus(a, b)", "times(a, b)",
+                  "over(a, b)", "below(a, b)"),
+    "liquors": ("is_liquor(thing)", "together(one, other)", "measures(liquor)", "strength(liquor)"),
+    "stills": ("is_still(thing)", "is_cut(still, thing)", "shares(still, cut)", "falls(still)"),
+    "runs": ("run(still, cut, charge)", "rows_of(still, charge)", "cut_by(still, charge, high, low)"),
+    "walks": ("walk(plan, steps, kept)",),
+    "loops": ("loop(plan, steps)", "behind(plan, steps, kept, many)"),
+}
+
+
+class Interface(unittest.TestCase):
+    def test_names_and_arguments(self):
+        for name, functions in FUNCTIONS.items():
+            module = importlib.import_module("twicerun." + name)
+            for wanted in functions:
+                function = getattr(module, wanted.partition("(")[0])
+                self.assertEqual(function.__name__ + str(inspect.signature(function)), wanted)
+                self.assertEqual(function.__module__, module.__name__)
