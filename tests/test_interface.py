@@ -12,6 +12,9 @@ FUNCTIONS = {
     "runs": ("run(still, cut, charge)", "rows_of(still, charge)", "cut_by(still, charge, high, low)"),
     "walks": ("walk(plan, steps, kept)",),
     "loops": ("loop(plan, steps)", "behind(plan, steps, kept, many)"),
+    "steadies": ("steady(plan, steps)", "near(plan, steps, kept, fine)"),
+    "floods": ("overflow(plan, steps, cap)", "most_wash(plan, steps, cap)"),
+    "traces": ("traced(plan, steps, kept)", "ages(plan, steps, many)"),
 }
 
 

@@ -70,3 +70,21 @@ def told_and_unchanged(case, call, *arguments):
     told = outcome(call, *arguments)
     case.assertEqual(repr(arguments), before)
     return told
+
+
+def check_refusals(case, call, right, wrong):
+    """Each wrong argument is refused with its class, whatever stands behind it, and changes nothing.
+
+    right: arguments of which something is told; wrong: for each place a class and things refused with it.
+    """
+    before = outcome(call, *right)
+    case.assertEqual(before[0], "told")
+    for at, (kind, others) in enumerate(wrong):
+        tails = {right[at + 1:]: True, (None,) * (len(right) - at - 1): True}
+        for later in range(at + 1, len(right)):
+            tails[right[at + 1:later] + (None,) + right[later + 1:]] = True
+        for other in others:
+            for tail in tails:
+                told = told_and_unchanged(case, call, *right[:at], other, *tail)
+                case.assertEqual(told, ("refused", kind), (call.__name__, at, other))
+        case.assertEqual(outcome(call, *right), before)

@@ -2,6 +2,9 @@
 
 from twicerun.errors import NoNumber
 
+ZERO = (0, 1)
+ONE = (1, 1)
+
 
 def is_whole(thing):
     # Python counts True and False as ints; here they are no numbers.

@@ -3,6 +3,8 @@
 from twicerun.errors import NoLiquor
 from twicerun.fractions import is_fraction, is_pair, over, plus
 
+NOTHING = ((0, 1), (0, 1))
+
 
 def is_part(thing):
     return is_fraction(thing) and thing[0] >= 0
@@ -19,6 +21,13 @@ def check_liquor(thing):
 
 def together(one, other):
     return (plus(one[0], other[0]), plus(one[1], other[1]))
+
+
+def all_together(liquors):
+    told = NOTHING
+    for one in liquors:
+        told = together(told, one)
+    return told
 
 
 def measures(liquor):
