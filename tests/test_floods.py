@@ -176,7 +176,8 @@ class MostWash(unittest.TestCase):
             self.assertEqual([self.check(KEEPS, steps, cap) for cap in (11, 12, 23, 24, 99999)], [0, 1, 1, 2, 8333])
 
     def test_0_where_a_part_grows(self):
-        for steps in ((((1, 0), (0, 0)),), (((0, 1), (0, 0)),), (((0, 1), (1, 2)),), (((0, 0), (0, 0)), ((1, 1), (1, 1)))):
+        for steps in ((((1, 0), (0, 0)),), (((0, 1), (0, 0)),), (((0, 1), (1, 2)),),
+                      (((0, 0), (0, 0)), ((1, 1), (1, 1)))):
             for cap in (1, 99999):
                 self.assertEqual(self.check(KEEPS, steps, cap), 0)
 

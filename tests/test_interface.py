@@ -15,6 +15,12 @@ FUNCTIONS = {
     "steadies": ("steady(plan, steps)", "near(plan, steps, kept, fine)"),
     "floods": ("overflow(plan, steps, cap)", "most_wash(plan, steps, cap)"),
     "traces": ("traced(plan, steps, kept)", "ages(plan, steps, many)"),
+    "takings": ("ceiling(still, charge, heads, strength, weight)", "most(still, charge, heads, strength)",
+                "best_cut(still, charge, heads, strength)"),
+    "duties": ("is_duty(thing)", "is_rules(thing)", "duty_of(duty, liquor)"),
+    "ledgers": ("is_deed(rules, thing)", "is_ledger(rules, thing)", "fails(rules, ledger)",
+                "standing(rules, ledger, day)"),
+    "casks": ("made_of(rules, ledger, day, cask)",),
 }
 
 

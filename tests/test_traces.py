@@ -158,4 +158,5 @@ class Ages(unittest.TestCase):
         check_refusals(self, ages, (PLAN, (STEP,), 3), (
             (NoPlan, NO_PLANS), (NoStep, NO_STEPS + [(STEP, STEP), (STEP,) * 3]), (NoCount, NO_AGES),
         ))
-        check_refusals(self, ages, (KEEPS, (((0, 0), (0, 0)),), 3), ((NoPlan, [None]), (NoStep, []), (NoCount, NO_AGES)))
+        none = (KEEPS, (((0, 0), (0, 0)),), 3)
+        check_refusals(self, ages, none, ((NoPlan, [None]), (NoStep, [None]), (NoCount, NO_AGES)))

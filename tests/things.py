@@ -41,7 +41,7 @@ def list_of(thing):
 
 
 def misspelt(thing):
-    """A thing of tuples and numbers written a little otherwise, here or further down."""
+    """A thing of tuples, numbers and small letters written a little otherwise, here or further down."""
     if isinstance(thing, tuple):
         yield list(thing)
         yield thing + (None,)
@@ -49,6 +49,8 @@ def misspelt(thing):
         for at, part in enumerate(thing):
             for other in misspelt(part):
                 yield thing[:at] + (other,) + thing[at + 1:]
+    elif isinstance(thing, str):
+        yield from (thing.encode(), thing.upper(), thing + " ", " " + thing, list(thing), (thing,), "")
     else:
         yield str(thing)
         yield (thing,)

@@ -6,7 +6,7 @@ A CHANGE is a tuple (FACTOR, ADDED): of spirit or of water, what is kept comes t
 from twicerun.errors import NoCount
 from twicerun.fractions import fraction, is_whole_within, plus, times
 from twicerun.liquors import check_liquor
-from twicerun.stills import shares
+from twicerun.stills import shares_of
 from twicerun.walks import check_plan, check_steps, cut_all_heart
 
 MOST_IN_ROUND = 3
@@ -25,13 +25,13 @@ def one_behind_other(ahead, later):
 def brought(plan, step, part):
     """What the WASH of a STEP brings to the CHARGE."""
     first = plan[0]
-    off = shares(first, cut_all_heart(first))[part][1]
+    off = shares_of(first, cut_all_heart(first), part)[1]
     return times(off, fraction(step[0][part], 1))
 
 
 def kept_share(plan, step, part):
     """Which part of the CHARGE is kept: heads and tails."""
-    parts = shares(plan[1], step[1])[part]
+    parts = shares_of(plan[1], step[1], part)
     return plus(parts[0], parts[2])
 
 

@@ -3,17 +3,23 @@
 from twicerun.errors import NoStrength
 from twicerun.fractions import below, fraction, is_whole_within, times
 from twicerun.liquors import check_liquor, strength
-from twicerun.stills import check_still, shares
+from twicerun.stills import check_cut, check_still, shares_of
 
 
 def share_of(charge, spirit_share, water_share):
     return (times(spirit_share, charge[0]), times(water_share, charge[1]))
 
 
-def run(still, cut, charge):
-    spirit_shares, water_shares = shares(still, cut)
-    check_liquor(charge)
+def parts_of(still, cut, charge):
+    """What run tells, of what is known to be right."""
+    spirit_shares, water_shares = shares_of(still, cut, 0), shares_of(still, cut, 1)
     return tuple(share_of(charge, spirit, water) for spirit, water in zip(spirit_shares, water_shares))
+
+
+def run(still, cut, charge):
+    check_cut(still, cut)
+    check_liquor(charge)
+    return parts_of(still, cut, charge)
 
 
 def rows_of(still, charge):

@@ -8,7 +8,7 @@ from twicerun.fractions import ONE, is_whole_within, minus, plus, times
 from twicerun.liquors import NOTHING, all_together, check_liquor, together
 from twicerun.loops import brought, kept_share
 from twicerun.runs import share_of
-from twicerun.stills import shares
+from twicerun.stills import shares_of
 from twicerun.walks import MOST_STEPS, check_plan, check_steps, run_wash
 
 KEPT_AT_FIRST = -1
@@ -39,7 +39,7 @@ def step_of_mixture(plan, step, kept, number):
     """HEART and KEPT, as MIXTUREs, of a STEP whose WASH has this number."""
     wash, cut = step
     charge = mixed(kept, {number: run_wash(plan[0], wash)[0]})
-    spirit, water = shares(plan[1], cut)
+    spirit, water = shares_of(plan[1], cut, 0), shares_of(plan[1], cut, 1)
     heart = share_of_each(charge, spirit[1], water[1])
     return heart, share_of_each(charge, plus(spirit[0], spirit[2]), plus(water[0], water[2]))
 

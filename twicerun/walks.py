@@ -3,7 +3,7 @@
 from twicerun.errors import NoPlan, NoStep
 from twicerun.fractions import fraction, is_pair, is_whole_within
 from twicerun.liquors import check_liquor, together
-from twicerun.runs import run
+from twicerun.runs import parts_of
 from twicerun.stills import is_cut, is_still
 
 MOST_STEPS = 20
@@ -40,7 +40,7 @@ def cut_all_heart(still):
 def run_wash(still, wash):
     """What runs off less what is lost, what is in the pot, and what is lost."""
     charge = (fraction(wash[0], 1), fraction(wash[1], 1))
-    parts = run(still, cut_all_heart(still), charge)
+    parts = parts_of(still, cut_all_heart(still), charge)
     return parts[1], parts[3], parts[4]
 
 
@@ -49,7 +49,7 @@ def step_of(plan, step, kept):
     wash, cut = step
     off, first_pot, first_lost = run_wash(first, wash)
     charge = together(off, kept)
-    heads, heart, tails, second_pot, second_lost = run(second, cut, charge)
+    heads, heart, tails, second_pot, second_lost = parts_of(second, cut, charge)
     pot = together(first_pot, second_pot)
     lost = together(first_lost, second_lost)
     return (charge, heart, together(heads, tails), pot, lost)
