@@ -103,10 +103,15 @@ def do(rules, state, number, deed):
         pour(casks[deed[1]], state["drawn"], deed[2])
 
 
+def in_turn(ledger):
+    """The entries with their numbers, as they are done."""
+    return sorted(enumerate(ledger), key=lambda row: (row[1][0], row[0]))
+
+
 def done(rules, ledger, day):
     """What is where behind all deeds up to this DAY, and (DAY, WORD) of the first that fails, else None."""
     state = at_first()
-    for number, (on, deed) in sorted(enumerate(ledger), key=lambda row: (row[1][0], row[0])):
+    for number, (on, deed) in in_turn(ledger):
         if on <= day:
             word = word_against(rules, state, deed)
             if word is not None:
@@ -128,6 +133,52 @@ def standing(rules, ledger, day):
     casks = tuple((name, liquor_of(state["casks"][name])) for name in sorted(state["casks"]))
     out = tuple(liquor_of(state[name]) for name in ("pot", "lost", "samples", "drawn"))
     return (liquor_of(state["kept"]), liquor_of(state["receiver"]), casks, out)
+
+
+def rate(rules, spirit, amount):
+    return [rate for start, rate in rules[4] if start * amount <= 100 * spirit][-1]
+
+
+def duties(rules, ledger):
+    """The duty of each DAY on which casks are filled, of a LEDGER that stands."""
+    told = {}
+    state = at_first()
+    for number, (on, deed) in in_turn(ledger):
+        do(rules, state, number, deed)
+        if deed[0] == "fill":
+            spirit = makers.as_fraction(liquor_of(state["casks"][deed[1]])[0])
+            told[on] = told.get(on, 0) + spirit * rate(rules, spirit, deed[2])
+    return tuple((day, makers.as_pair(told[day])) for day in sorted(told))
+
+
+def runs(rules, ledger):
+    """(CHARGE, HEART, KEPT) of each run, as they are done, of a LEDGER that stands."""
+    told = []
+    state = at_first()
+    for number, (on, deed) in in_turn(ledger):
+        # With an empty receiver what is in it behind a run is its heart.
+        there = state["receiver"]
+        if deed[0] == "run":
+            state["receiver"] = {}
+            charge = {-1: [makers.as_fraction(part) for part in liquor_of(state["kept"])]}
+            for part in (0, 1):
+                put(charge, number, part, Fraction(rounds.brought(rules[:2], deed[1:], part), 100))
+        do(rules, state, number, deed)
+        if deed[0] == "run":
+            told.append((liquor_of(charge), liquor_of(state["receiver"]), liquor_of(state["kept"])))
+            put_all(state["receiver"], there)
+    return told
+
+
+def differing(then, now):
+    then, now = dict(then), dict(now)
+    return tuple((key, then.get(key), now.get(key)) for key in sorted({**then, **now}) if then.get(key) != now.get(key))
+
+
+def moved(rules, ledger, entry):
+    then, now = ledger[:entry], ledger[:entry + 1]
+    casks = [standing(rules, some, 9999)[2] for some in (then, now)]
+    return (differing(*casks), differing(duties(rules, then), duties(rules, now)))
 
 
 def dice_rules(dice):

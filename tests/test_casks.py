@@ -3,7 +3,7 @@ import unittest
 
 from tests import ledgers_by_hand, makers
 from tests.test_duties import NO_RULES
-from tests.test_ledgers import ALL_HEART, EASY, FAILING, HOUSE, NO_DAYS, WRONG_NAMES, wrong_ledgers
+from tests.test_ledgers import ALL_HEART, EASY, FAILING, HOUSE, NO_DAYS, WRONG_NAMES, check_fails, wrong_ledgers
 from tests.things import check_refusals, outcome, things
 from twicerun.casks import made_of
 from twicerun.errors import Fails, NoDay, NoLedger, NoName, NoRules
@@ -87,7 +87,4 @@ class Casks(unittest.TestCase):
         check_refusals(self, made_of, right, ((NoRules, []), (Fails, [ledger for ledger, told in FAILING])))
 
     def test_fields_of_fails(self):
-        for ledger, told in FAILING:
-            with self.assertRaises(Fails) as caught:
-                made_of(EASY, ledger, None, None)
-            self.assertEqual((caught.exception.entry, caught.exception.day, caught.exception.word), told)
+        check_fails(self, made_of, None, None)

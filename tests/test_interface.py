@@ -21,6 +21,8 @@ FUNCTIONS = {
     "ledgers": ("is_deed(rules, thing)", "is_ledger(rules, thing)", "fails(rules, ledger)",
                 "standing(rules, ledger, day)"),
     "casks": ("made_of(rules, ledger, day, cask)",),
+    "movings": ("duties(rules, ledger)", "duty_then(rules, ledger, day, many)", "moved(rules, ledger, entry)"),
+    "clashes": ("clash(rules, ledger, tellings)",),
 }
 
 

@@ -238,6 +238,14 @@ FAILING = [
 ]
 
 
+def check_fails(case, call, *rest):
+    """Each LEDGER that doesn't stand is refused with Fails and its fields, whatever stands behind it."""
+    for ledger, told in FAILING:
+        with case.assertRaises(Fails) as caught:
+            call(EASY, ledger, *rest)
+        case.assertEqual((caught.exception.entry, caught.exception.day, caught.exception.word), told)
+
+
 class Standing(unittest.TestCase):
     def check(self, rules, ledger, day):
         told = standing(rules, ledger, day)
@@ -336,10 +344,9 @@ class Standing(unittest.TestCase):
         check_refusals(self, standing, right, ((NoRules, []), (Fails, [ledger for ledger, told in FAILING])))
 
     def test_fields_of_fails(self):
+        check_fails(self, standing, 0)
+        check_fails(self, standing, None)
         for ledger, told in FAILING:
-            with self.assertRaises(Fails) as caught:
-                standing(EASY, ledger, 0)
-            self.assertEqual((caught.exception.entry, caught.exception.day, caught.exception.word), told)
             self.assertEqual(fails(EASY, ledger), told)
 
     def test_days_that_may_be_asked(self):

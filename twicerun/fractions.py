@@ -44,19 +44,25 @@ def fraction(top, bottom):
 
 
 def plus(a, b):
-    return fraction(a[0] * b[1] + b[0] * a[1], a[1] * b[1])
+    divisor = common_divisor(a[1], b[1])
+    top = a[0] * (b[1] // divisor) + b[0] * (a[1] // divisor)
+    # Whatever divides this top and one of the bottoms divides the divisor: mostly a short number, quickly done with.
+    rest = common_divisor(top, divisor)
+    return (top // rest, a[1] // divisor * (b[1] // rest))
 
 
 def minus(a, b):
-    return fraction(a[0] * b[1] - b[0] * a[1], a[1] * b[1])
+    return plus(a, (-b[0], b[1]))
 
 
 def times(a, b):
-    return fraction(a[0] * b[0], a[1] * b[1])
+    # Crosswise, as a long number is quickly divided by a short one, two long products are not.
+    one, other = fraction(a[0], b[1]), fraction(b[0], a[1])
+    return (one[0] * other[0], one[1] * other[1])
 
 
 def over(a, b):
-    return fraction(a[0] * b[1], a[1] * b[0])
+    return times(a, fraction(b[1], b[0]))
 
 
 def below(a, b):

@@ -120,10 +120,13 @@ def store_on(rules, ledger, day):
     return store
 
 
+def casks_of(store):
+    return tuple((name, all_of(store.casks[name])) for name in sorted(store.casks))
+
+
 def standing(rules, ledger, day):
     check_stands(rules, ledger)
     check_day(day)
     store = store_on(rules, ledger, day)
-    casks = tuple((name, all_of(store.casks[name])) for name in sorted(store.casks))
     out = (store.pot, store.lost, store.samples, store.drawn)
-    return (all_of(store.kept), all_of(store.receiver), casks, out)
+    return (all_of(store.kept), all_of(store.receiver), casks_of(store), out)
