@@ -23,7 +23,20 @@ FUNCTIONS = {
     "casks": ("made_of(rules, ledger, day, cask)",),
     "movings": ("duties(rules, ledger)", "duty_then(rules, ledger, day, many)", "moved(rules, ledger, entry)"),
     "clashes": ("clash(rules, ledger, tellings)",),
+    "checker": ("holds(claim, paper)",),
+    "papers": ("paper_most(still, charge, heads, strength)", "paper_overflow(plan, steps, cap)",
+               "paper_steady(plan, steps)"),
 }
+CLASSES = {
+    ("houses", "House"): ("__init__(self, rules)", "enter(self, day, deed)", "ledger(self)", "standing(self, day)",
+                          "made_of(self, day, cask)", "duties(self)", "duty_then(self, day, many)",
+                          "moved(self, entry)"),
+    ("desk", "Desk"): ("__init__(self, rules)", "say(self, row)"),
+}
+
+
+def written(function):
+    return function.__name__ + str(inspect.signature(function))
 
 
 class Interface(unittest.TestCase):
@@ -32,5 +45,12 @@ class Interface(unittest.TestCase):
             module = importlib.import_module("twicerun." + name)
             for wanted in functions:
                 function = getattr(module, wanted.partition("(")[0])
-                self.assertEqual(function.__name__ + str(inspect.signature(function)), wanted)
+                self.assertEqual(written(function), wanted)
                 self.assertEqual(function.__module__, module.__name__)
+
+    def test_classes_and_their_own_methods(self):
+        for (name, kind), methods in CLASSES.items():
+            there = getattr(importlib.import_module("twicerun." + name), kind)
+            self.assertEqual(there.__bases__, (object,))
+            for wanted in methods:
+                self.assertEqual(written(vars(there)[wanted.partition("(")[0]]), wanted)
